@@ -119,6 +119,19 @@ func TestBestByIncorrectTables(t *testing.T) {
 	})
 }
 
+// noTables is lists of values that are no table: one value is out of range, or there is not one per code.
+func (s solved) noTables() [][]int {
+	var wrong [][]int
+	for _, v := range append(extremes(), -2, -1, 101, 102) {
+		for _, i := range append(s.someCodes(1)[:1], 0, len(s.vals)-1) {
+			vals := slices.Clone(s.vals)
+			vals[i] = v
+			wrong = append(wrong, vals)
+		}
+	}
+	return append(wrong, nil, s.vals[:len(s.vals)-1], append(slices.Clone(s.vals), 0), slices.Concat(s.vals, s.vals), make([]int, 100000))
+}
+
 func TestNoTable(t *testing.T) {
 	for _, s := range tables()[:15] {
 		codes := s.someCodes(1)
@@ -126,16 +139,7 @@ func TestNoTable(t *testing.T) {
 			continue
 		}
 		p := *s.positions[codes[0]]
-		var wrong [][]int
-		for _, v := range append(extremes(), -2, -1, 101, 102) {
-			for _, i := range []int{0, codes[0], len(s.vals) - 1} {
-				vals := slices.Clone(s.vals)
-				vals[i] = v
-				wrong = append(wrong, vals)
-			}
-		}
-		wrong = append(wrong, nil, s.vals[:len(s.vals)-1], append(slices.Clone(s.vals), 0), slices.Concat(s.vals, s.vals), make([]int, 100000))
-		for _, vals := range wrong {
+		for _, vals := range s.noTables() {
 			if len(impl.BestMoves(s.rules, s.mat, vals, p)) != 0 || len(impl.BestLine(s.rules, s.mat, vals, p)) != 0 {
 				t.Fatalf("BestMoves or BestLine takes %d values that are no table", len(vals))
 			}
